@@ -1,0 +1,1 @@
+"""Packages whose versions fit."""
