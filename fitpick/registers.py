@@ -3,6 +3,8 @@
 A text is a list of bytes. A name is kept as a tuple of its bytes, a version as a tuple of its three numbers.
 """
 
+from fitpick.choices import Choices
+
 LINE_END = 10
 SPACE = 32
 AMPERSAND = 38
@@ -14,16 +16,23 @@ COLON = 58
 SMALL_A = 97
 SMALL_Z = 122
 
-# The signs that stand before a version in a range: = > < ~ ^
-RANGE_SIGNS = (61, 62, 60, 126, 94)
+# The signs that stand before a version in a range.
+JUST = 61
 AT_LEAST = 62
+BELOW = 60
+TILDE = 126
+CARET = 94
 
 MOST_FIGURES = 3
+# The first number that has more figures.
+NUMBERS_END = 1000
 VERSION_NUMBERS = 3
 MOST_RANGE_PARTS = 4
 MOST_LETTERS = 16
 MOST_NEEDS = 8
+MOST_WISHES = 8
 MOST_LINES = 128
+MOST_BYTES = 32768
 
 
 class WrongText(Exception):
@@ -35,8 +44,14 @@ class WrongLine(Exception):
         self.number = number
 
 
+class NoChoice(Exception):
+    pass
+
+
 class Line:
-    def __init__(self, name, version, needs):
+    def __init__(self, label, name, version, needs):
+        # The bytes of the name, a space, the version.
+        self.label = label
         self.name = name
         self.version = version
         self.needs = needs
@@ -90,27 +105,56 @@ def read_version(text):
     return tuple([read_number(piece) for piece in pieces])
 
 
+def end_of_same(version, count):
+    """What stands first above all versions that have so many of their first numbers the same."""
+    same = list(version[:count])
+    same[-1] += 1
+    return tuple(same + [0] * (VERSION_NUMBERS - count))
+
+
+def end_of_caret(version):
+    if version[0] > 0:
+        return end_of_same(version, 1)
+    if version[1] > 0:
+        return end_of_same(version, 2)
+    return end_of_same(version, 3)
+
+
 def read_range_part(text):
+    """The least that fits, and the first above it that doesn't: all between fit, so these two tell the whole part."""
     if text == [STAR]:
-        # No version is less than 0.0.0, so this is any version without a case of its own.
-        return (AT_LEAST, (0, 0, 0))
-    if len(text) == 0 or text[0] not in RANGE_SIGNS:
-        raise WrongText("a range's part begins with one of its signs")
-    return (text[0], read_version(text[1:]))
+        return ((0, 0, 0), (NUMBERS_END, 0, 0))
+    if len(text) == 0:
+        raise WrongText("a range's part isn't empty")
+    version = read_version(text[1:])
+    if text[0] == JUST:
+        return (version, end_of_same(version, 3))
+    if text[0] == AT_LEAST:
+        return (version, (NUMBERS_END, 0, 0))
+    if text[0] == BELOW:
+        return ((0, 0, 0), version)
+    if text[0] == TILDE:
+        return (version, end_of_same(version, 2))
+    if text[0] == CARET:
+        return (version, end_of_caret(version))
+    raise WrongText("a range's part begins with one of its signs")
 
 
 def read_range(text):
     pieces = split_at(text, AMPERSAND)
     if len(pieces) > MOST_RANGE_PARTS:
         raise WrongText("a range has one to four parts")
-    return [read_range_part(piece) for piece in pieces]
+    parts = [read_range_part(piece) for piece in pieces]
+    return (max([part[0] for part in parts]), min([part[1] for part in parts]))
 
 
 def read_need(text):
+    """The name, the least version that fits, and the first above it that doesn't."""
     pieces = split_at(text, COLON)
     if len(pieces) != 2:
         raise WrongText("a need has one colon")
-    return (read_name(pieces[0]), read_range(pieces[1]))
+    fits = read_range(pieces[1])
+    return (read_name(pieces[0]), fits[0], fits[1])
 
 
 def read_line(text):
@@ -118,7 +162,8 @@ def read_line(text):
     if len(words) < 2 or len(words) > 2 + MOST_NEEDS:
         raise WrongText("a line has a name, a version and up to eight needs")
     needs = [read_need(word) for word in words[2:]]
-    return Line(read_name(words[0]), read_version(words[1]), needs)
+    label = words[0] + [SPACE] + words[1]
+    return Line(label, read_name(words[0]), read_version(words[1]), needs)
 
 
 def read_lines(b):
@@ -144,3 +189,43 @@ def pk_read(b):
     except WrongLine as e:
         return [-1, e.number]
     return [len(lines)]
+
+
+def read_wishes(wish):
+    if len(wish) == 0:
+        return []
+    words = split_at(wish, SPACE)
+    if len(words) > MOST_WISHES:
+        raise WrongText("there are up to eight wishes")
+    return [read_need(word) for word in words]
+
+
+def find_best(lines, wishes):
+    """The lines of the best choice, in the register's order."""
+    choices = Choices(lines, wishes)
+    if not choices.seek([]):
+        raise NoChoice()
+    choices.improve()
+    return [lines[number] for number in choices.found]
+
+
+def write_lines(lines):
+    text = []
+    for line in lines:
+        text.extend(line.label)
+        text.append(LINE_END)
+    return text
+
+
+def pk_choose(most, b, wish):
+    if most > MOST_BYTES:
+        return [-2]
+    try:
+        text = write_lines(find_best(read_lines(b), read_wishes(wish)))
+    except (WrongText, WrongLine):
+        return [-1]
+    except NoChoice:
+        return [-6]
+    if len(text) > most:
+        return [-5]
+    return [len(text)] + text
