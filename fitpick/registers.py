@@ -4,6 +4,7 @@ A text is a list of bytes. A name is kept as a tuple of its bytes, a version as 
 """
 
 from fitpick.choices import Choices
+from fitpick.keeping import keep_most
 
 LINE_END = 10
 SPACE = 32
@@ -200,11 +201,23 @@ def read_wishes(wish):
     return [read_need(word) for word in words]
 
 
-def find_best(lines, wishes):
-    """The lines of the best choice, in the register's order."""
+def read_earlier(old):
+    """The lines of an earlier choice: their names and versions are the dict's keys."""
+    earlier = {}
+    for text in split_lines(old):
+        words = split_at(text, SPACE)
+        if len(words) != 2:
+            raise WrongText("a line of an earlier choice has a name and a version")
+        earlier[(read_name(words[0]), read_version(words[1]))] = True
+    return earlier
+
+
+def find_best(lines, wishes, earlier):
+    """The lines of the best choice of those that keep most of the earlier one, in the register's order."""
     choices = Choices(lines, wishes)
     if not choices.seek([]):
         raise NoChoice()
+    keep_most(choices, earlier)
     choices.improve()
     return [lines[number] for number in choices.found]
 
@@ -217,11 +230,11 @@ def write_lines(lines):
     return text
 
 
-def pk_choose(most, b, wish):
+def answer_best(most, b, wish, old):
     if most > MOST_BYTES:
         return [-2]
     try:
-        text = write_lines(find_best(read_lines(b), read_wishes(wish)))
+        text = write_lines(find_best(read_lines(b), read_wishes(wish), read_earlier(old)))
     except (WrongText, WrongLine):
         return [-1]
     except NoChoice:
@@ -229,3 +242,12 @@ def pk_choose(most, b, wish):
     if len(text) > most:
         return [-5]
     return [len(text)] + text
+
+
+def pk_choose(most, b, wish):
+    # With an empty earlier choice all choices have equally many lines in common.
+    return answer_best(most, b, wish, [])
+
+
+def pk_keep(most, b, wish, old):
+    return answer_best(most, b, wish, old)

@@ -153,7 +153,7 @@ class Files(unittest.TestCase):
 
     def test_interface_stands_in_its_file(self):
         for file in FILES:
-            for name in ("pk_read", "pk_choose"):
+            for name in ("pk_read", "pk_choose", "pk_keep"):
                 self.assertEqual(name in file.top_names(), file.name == "registers.py")
                 self.assertNotIn(name, file.imported())
 

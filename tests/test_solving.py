@@ -1,4 +1,4 @@
-"""The search for answers that satisfy clauses, on which promise 2 stands."""
+"""The search for answers that satisfy clauses, on which promises 2 and 3 stand."""
 
 import itertools
 import random
