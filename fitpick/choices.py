@@ -33,7 +33,6 @@ def find_packages(lines):
 
 
 def order_names(packages, wishes):
-    """Those wished for as they come first among the wishes, then the others by their letters."""
     ordered = {}
     for wish in wishes:
         if wish[0] in packages:
@@ -44,7 +43,7 @@ def order_names(packages, wishes):
 
 
 def circle_around(name, needed):
-    """The name and all those that need it, at once or by others; needed: for each name those that it needs."""
+    # The name and all those that need it, at once or by others; needed: for each name those that it needs.
     circle = {name: True}
     waiting = [name]
     while len(waiting) > 0:
@@ -94,7 +93,7 @@ class Choices:
         return [place for place, version in enumerate(versions) if need[1] <= version and version < need[2]]
 
     def bind(self, needer, need):
-        """Where the needer's literal holds, the need is met."""
+        # What fits lies side by side, so that the steps at its two ends are enough.
         places = self.fitting_places(need)
         if len(places) == 0:
             self.solver.require([needer ^ 1])
@@ -104,10 +103,7 @@ class Choices:
             self.solver.require([needer ^ 1, steps[places[-1] + 1] ^ 1])
 
     def bind_to_needers(self):
-        """What isn't wished for is chosen only if something else needs it.
-
-        All this would also come out of lost names, but only one search after the other.
-        """
+        # All this would come out of lost names as well, but only by one search after the other.
         wished = [wish[0] for wish in self.wishes]
         for name in self.names:
             if name not in wished:
@@ -117,14 +113,14 @@ class Choices:
             self.solver.require([self.packages[name].steps[-1]])
 
     def let_in(self, name, circle):
-        """The name is chosen only if a line from outside the circle needs one of the circle."""
+        # The name is chosen only if a line from outside the circle needs one of the circle.
         needers = []
         for other in circle:
             needers.extend([number for number in self.packages[other].needers if self.lines[number].name not in circle])
         self.solver.require([self.packages[name].steps[-1]] + [self.chosen[number] for number in needers])
 
     def find_lost(self, numbers):
-        """Those names of these lines that no wish leads to, each with the names that it needs."""
+        # Those names of these lines that no wish leads to, each with the names that it needs.
         needed = {}
         for number in numbers:
             line = self.lines[number]
@@ -137,12 +133,12 @@ class Choices:
         return needed
 
     def refuse_lost(self, lost):
-        """Tells the solver that what leads to a lost name must come from outside all that leads to it now."""
+        # All that leads to a lost name is lost as well: so only a line from outside can bring it in.
         for name in lost:
             self.let_in(name, circle_around(name, lost))
 
     def seek(self, assumed):
-        """Whether there's a choice where the assumed literals hold; if so, that's the one found."""
+        # The clauses let through lines that only need one another: these are refused when they come up.
         while self.solver.solve(assumed):
             model = self.solver.model
             numbers = [number for number, line in enumerate(self.chosen) if model[line >> 1]]
@@ -160,7 +156,6 @@ class Choices:
         return len(package.numbers)
 
     def improve(self):
-        """From a choice that was found to the best one."""
         for name in self.names:
             package = self.packages[name]
             top = len(package.numbers)

@@ -8,7 +8,7 @@ the end is a choice with most lines kept, and each such choice meets them.
 
 
 def ask_goals(choices, earlier):
-    """A literal for each package with lines in the earlier choice: that one of these lines is chosen."""
+    # A literal for each package with lines in the earlier choice: that one of these lines is chosen.
     goals = []
     for name in choices.names:
         kept = []
@@ -34,7 +34,7 @@ def add_counts(solver, left, right):
 
 
 def count_up(solver, literals):
-    """Literals that must hold where one at least of those given holds, where two, where three and so on."""
+    # Literals that must hold where one at least of those given holds, where two, where three and so on.
     counts = [[literal] for literal in literals]
     while len(counts) > 1:
         counts = counts[2:] + [add_counts(solver, counts[0], counts[1])]
@@ -53,7 +53,7 @@ class Goals:
             self.later[literals[0]] = literals[1:]
 
     def give_up(self, solver, core):
-        """Of these goals one at least can't be met."""
+        # One of these fails in any case: so the first goal in their place is that no second one does.
         for literal in core:
             self.aim(self.later.pop(literal))
         counts = count_up(solver, [literal ^ 1 for literal in core])
@@ -61,7 +61,7 @@ class Goals:
 
 
 def keep_most(choices, earlier):
-    """Of the choices leaves those with most lines of the earlier one, and finds one of them; there must be some."""
+    # Of the choices leaves those with most lines of the earlier one, and finds one of them; there must be some.
     goals = Goals(ask_goals(choices, earlier))
     while not choices.seek(list(goals.later)):
         goals.give_up(choices.solver, choices.solver.core)

@@ -107,7 +107,7 @@ def read_version(text):
 
 
 def end_of_same(version, count):
-    """What stands first above all versions that have so many of their first numbers the same."""
+    # What stands first above all versions that have so many of their first numbers the same.
     same = list(version[:count])
     same[-1] += 1
     return tuple(same + [0] * (VERSION_NUMBERS - count))
@@ -122,7 +122,7 @@ def end_of_caret(version):
 
 
 def read_range_part(text):
-    """The least that fits, and the first above it that doesn't: all between fit, so these two tell the whole part."""
+    # The least that fits, and the first above it that doesn't: all between fit, so these two tell the whole part.
     if text == [STAR]:
         return ((0, 0, 0), (NUMBERS_END, 0, 0))
     if len(text) == 0:
@@ -150,7 +150,7 @@ def read_range(text):
 
 
 def read_need(text):
-    """The name, the least version that fits, and the first above it that doesn't."""
+    # The name, the least version that fits, and the first above it that doesn't.
     pieces = split_at(text, COLON)
     if len(pieces) != 2:
         raise WrongText("a need has one colon")
@@ -202,7 +202,7 @@ def read_wishes(wish):
 
 
 def read_earlier(old):
-    """The lines of an earlier choice: their names and versions are the dict's keys."""
+    # The lines of an earlier choice: their names and versions are the dict's keys.
     earlier = {}
     for text in split_lines(old):
         words = split_at(text, SPACE)
@@ -213,7 +213,7 @@ def read_earlier(old):
 
 
 def find_best(lines, wishes, earlier):
-    """The lines of the best choice of those that keep most of the earlier one, in the register's order."""
+    # The lines of the best choice of those that keep most of the earlier one, in the register's order.
     choices = Choices(lines, wishes)
     if not choices.seek([]):
         raise NoChoice()

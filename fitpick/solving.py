@@ -7,7 +7,7 @@ again, and goes back at once past all that had no part in it.
 
 UNSET = 0
 HOLDS = 1
-FAILS = -1
+FAILS = 2
 
 # Question 0 is always answered yes, so that this literal can stand where nothing is left to ask.
 ALWAYS = 0
@@ -19,7 +19,7 @@ LEARNT_MORE = 50
 
 
 def luby(number):
-    """Of the row 1 1 2 1 1 2 4 1 1 2 1 1 2 4 8 .. the one at this place, from 0 on."""
+    # Of the row 1 1 2 1 1 2 4 1 1 2 1 1 2 4 8 .. the one at this place, from 0 on.
     size = 1
     while size < number + 1:
         size = 2 * size + 1
@@ -58,7 +58,6 @@ class Solver:
         self.require([ALWAYS])
 
     def ask(self, liking):
-        """The yes to a new question; liking: whether it's to be tried ahead of no."""
         number = len(self.level)
         yes = 2 * number
         self.value.extend([UNSET, UNSET])
@@ -86,7 +85,7 @@ class Solver:
         self.place = len(fresh) - 1
 
     def require(self, literals):
-        """One more clause; not within a search."""
+        # Only between two searches: what is known then is known for good and can be left out.
         clause = []
         for literal in literals:
             if self.value[literal] == HOLDS or (literal ^ 1) in clause:
@@ -120,7 +119,6 @@ class Solver:
         self.trail.append(literal)
 
     def propagate(self):
-        """Draws all that follows from the trail; gives back a clause that fails, or None."""
         while self.head < len(self.trail):
             literal = self.trail[self.head]
             self.head += 1
@@ -135,7 +133,7 @@ class Solver:
         return None
 
     def visit(self, gone):
-        """Looks at the clauses that watch a literal which fails now: each watches another, or its last must hold."""
+        # Looks at the clauses that watch a literal which fails now: each watches another, or its last must hold.
         value = self.value
         watchers = self.watching[gone]
         kept = []
@@ -156,7 +154,6 @@ class Solver:
         return None
 
     def watch_another(self, clause):
-        """Puts one that doesn't fail in the second place, from behind; False if all behind fail."""
         value = self.value
         for place in range(2, len(clause)):
             other = clause[place]
@@ -183,7 +180,7 @@ class Solver:
         self.head = start
 
     def explain(self, failed):
-        """The clause to learn; first in it the one literal that all of the deepest level's part came through."""
+        # The clause to learn; first in it the one literal that all of the deepest level's part came through.
         depth = len(self.starts)
         seen = {}
         clause = []
@@ -212,7 +209,7 @@ class Solver:
         return [self.trail[place] ^ 1] + [literal for literal in clause if not self.follows(literal, seen)]
 
     def follows(self, literal, seen):
-        """Whether the failing of a literal follows from that of others in the clause, so that it can be left out."""
+        # Whether the failing of a literal follows from that of others in the clause, so that it can be left out.
         if self.reason[literal >> 1] is None:
             return False
         passed = {literal >> 1: True}
@@ -243,7 +240,7 @@ class Solver:
         self.put(clause[0], clause)
 
     def forget(self):
-        """Drops half of what was learnt, the widest spread and of that the oldest first: each clause costs time."""
+        # Drops half of what was learnt, the widest spread and of that the oldest first: each clause costs time.
         self.room += LEARNT_MORE
         ordered = sorted(reversed(self.learnt), key=lambda pair: pair[0])
         self.learnt = list(reversed(ordered[:len(ordered) // 2]))
@@ -254,7 +251,7 @@ class Solver:
             self.attach(pair[1])
 
     def blame(self, literal):
-        """Those of the assumed literals that make this one, assumed too, fail; and this one."""
+        # Those of the assumed literals that make this one, assumed too, fail; and this one.
         core = [literal]
         seen = {literal >> 1: True}
         for made in reversed(self.trail):
@@ -280,7 +277,6 @@ class Solver:
             self.put(literal, None)
 
     def pick(self):
-        """The literal to be tried next, or None if every question is answered."""
         while self.place >= 0:
             number = self.queue[self.place]
             if self.stamp[number] == self.place and self.value[2 * number] == UNSET:
@@ -289,7 +285,7 @@ class Solver:
         return None
 
     def go_on(self, assumed):
-        """One more try: first each of the assumed. True or False when the search is at its end, else None."""
+        # The assumed come first, one level each, so that a failing one of them can be told from a failing try.
         if len(self.starts) < len(assumed):
             literal = assumed[len(self.starts)]
             if self.value[literal] == FAILS:
@@ -324,11 +320,9 @@ class Solver:
         return answer
 
     def solve(self, assumed):
-        """Whether all clauses and the assumed literals can hold together.
-
-        If so, the model tells of each question whether it's answered yes; else the core has some of the assumed that
-        can't hold together, none if even the clauses can't.
-        """
+        # Whether all clauses and the assumed literals can hold together.
+        # If so, the model tells of each question whether it's answered yes; else the core has some of the assumed that
+        # can't hold together, none if even the clauses can't.
         self.core = []
         if self.hopeless:
             return False

@@ -179,7 +179,7 @@ class Statements(unittest.TestCase):
                 if isinstance(node.op, ast.Pow):
                     self.assertIsInstance(node.right, ast.Constant)
             for node in file.every(ast.Expr):
-                self.assertIsInstance(node.value, (ast.Call, ast.Constant), file.at(node))
+                self.assertTrue(isinstance(node.value, ast.Call) or node is file.tree.body[0], file.at(node))
 
     def test_is_stands_beside_none_true_and_false(self):
         for file in FILES:
