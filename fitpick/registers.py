@@ -3,6 +3,7 @@
 A text is a list of bytes. A name is kept as a tuple of its bytes, a version as a tuple of its three numbers.
 """
 
+from fitpick.blaming import find_core
 from fitpick.choices import Choices
 from fitpick.keeping import keep_most
 
@@ -251,3 +252,11 @@ def pk_choose(most, b, wish):
 
 def pk_keep(most, b, wish, old):
     return answer_best(most, b, wish, old)
+
+
+def pk_core(b, wish):
+    try:
+        core = find_core(read_lines(b), read_wishes(wish))
+    except (WrongText, WrongLine):
+        return [-1]
+    return [len(core)] + core

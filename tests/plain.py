@@ -5,6 +5,12 @@ Registers, wishes and earlier choices are texts here. A line is (name, version, 
 
 import itertools
 
+MOST = 32768
+
+
+def rows(*lines):
+    return "".join(f"{line}\n" for line in lines)
+
 
 def version_of(text):
     return tuple(int(number) for number in text.split("."))
@@ -44,12 +50,12 @@ def is_choice(chosen, wishes):
     needs = wishes + [need for line in chosen.values() for need in line[2]]
     if not all(name in chosen and fits(parts, chosen[name][1]) for name, parts in needs):
         return False
-    led_to = {name for name, _ in wishes}
+    names = {name for name, _ in wishes}
     while True:
-        more = led_to | {need[0] for name in led_to for need in chosen[name][2]}
-        if more == led_to:
-            return led_to == set(chosen)
-        led_to = more
+        more = names | {need[0] for name in names for need in chosen[name][2]}
+        if more == names:
+            return names == set(chosen)
+        names = more
 
 
 def all_choices(lines, wishes):
@@ -75,16 +81,66 @@ def worth(chosen, lines, wishes):
     return [(0, chosen[name][1]) if name in chosen else (1, ()) for name in order]
 
 
-def told(register, wish, old=""):
-    """The best choice's text, of those with most lines in common with the earlier one; None if there's no choice."""
+def wishes_of(text):
+    return needs_of(text.split(" ")) if text != "" else []
+
+
+def best_choice(register, wish, old=""):
+    """Of those with most lines in common with the earlier one; None if there's no choice."""
     lines = lines_of(register)
-    wishes = needs_of(wish.split(" ")) if wish != "" else []
+    wishes = wishes_of(wish)
     choices = list(all_choices(lines, wishes))
     if not choices:
         return None
     most = max(common(chosen, old) for chosen in choices)
-    best = max([chosen for chosen in choices if common(chosen, old) == most], key=lambda one: worth(one, lines, wishes))
-    return text_of([line for line in lines if line in best.values()])
+    return max([chosen for chosen in choices if common(chosen, old) == most], key=lambda one: worth(one, lines, wishes))
+
+
+def told(register, wish, old=""):
+    """The best choice's text in the register's order; None if there's no choice."""
+    best = best_choice(register, wish, old)
+    if best is None:
+        return None
+    return text_of([line for line in lines_of(register) if line in best.values()])
+
+
+def told_core(register, wish):
+    """The numbers of the wishes that are to blame."""
+    lines = lines_of(register)
+    wishes = wishes_of(wish)
+    for size in range(len(wishes) + 1):
+        for numbers in itertools.combinations(range(len(wishes)), size):
+            if not any(True for _ in all_choices(lines, [wishes[number] for number in numbers])):
+                return list(numbers)
+    return []
+
+
+def led_to(chosen, name):
+    """The names that one of these lines needs, at once or by others."""
+    names = set()
+    more = {need[0] for need in chosen[name][2]}
+    while more:
+        names |= more
+        more = {need[0] for other in more for need in chosen[other][2]} - names
+    return names
+
+
+def in_order(chosen):
+    """The names of a choice in the order that pk_order asks for."""
+    order = []
+    while len(order) < len(chosen):
+        free = []
+        for name in set(chosen) - set(order):
+            if all(other in order or name in led_to(chosen, other) for other in led_to(chosen, name)):
+                free.append(name)
+        order.append(min(free))
+    return order
+
+
+def told_order(register, wish):
+    """The best choice's text in the order that pk_order asks for; None if there's no choice."""
+    best = best_choice(register, wish)
+    return None if best is None else text_of([best[name] for name in in_order(best)])
 
 
 def text_of(lines):
@@ -124,10 +180,36 @@ def letters(number):
 
 def hubs(names):
     """Lines that need all these names, eight each, and the wishes for them."""
-    rows = []
+    lines = []
     for start in range(0, len(names), 8):
-        rows.append(f"hub{letters(start)} 1.0.0 " + " ".join(f"{name}:*" for name in names[start:start + 8]))
-    return rows, " ".join(f"{row.split(' ')[0]}:*" for row in rows)
+        lines.append(f"hub{letters(start)} 1.0.0 " + " ".join(f"{name}:*" for name in names[start:start + 8]))
+    return lines, " ".join(f"{line.split(' ')[0]}:*" for line in lines)
+
+
+def places(guests, rooms):
+    """Each guest needs a room of its own: room j in version i is the one that guest i has."""
+    lines = [f"g{letters(i)} {j}.0.0 r{letters(j)}:={i}.0.0" for i in range(guests) for j in range(rooms)]
+    lines += [f"r{letters(j)} {i}.0.0" for j in range(rooms) for i in range(guests)]
+    return rows(*lines), " ".join(f"g{letters(i)}:*" for i in range(guests))
+
+
+def pairs(count):
+    """Each is paired with another: in version j with the one of number j."""
+    names = [f"p{letters(k)}" for k in range(count)]
+    lines, wish = hubs(names)
+    for i, j in itertools.permutations(range(count), 2):
+        lines.append(f"{names[i]} {j}.0.0 {names[j]}:={i}.0.0")
+    return rows(*lines), wish
+
+
+def falling(names, versions):
+    """Lines where each version of a name fits only the next name's versions that aren't above it."""
+    lines = []
+    for k in range(names):
+        for v in range(versions):
+            need = f" {letters(k + 1)}:<{v + 1}.0.0" if k + 1 < names else ""
+            lines.append(f"{letters(k)} {v}.0.0{need}")
+    return lines
 
 
 class Untouchable(list):

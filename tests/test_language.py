@@ -89,7 +89,8 @@ class File:
 FILES = [File(name) for name in sorted(os.listdir(PACKAGE)) if name != "__pycache__"]
 CLASSES = [(file, node) for file in FILES for node in file.every(ast.ClassDef)]
 OWN_METHODS = [node.name for _, kind in CLASSES for node in kind.body if isinstance(node, ast.FunctionDef)]
-OWN_ERRORS = [kind.name for _, kind in CLASSES if kind.bases]
+OWN_CLASSES = [kind.name for _, kind in CLASSES]
+OWN_ERRORS = [kind.name for _, kind in CLASSES if kind.bases and kind.bases[0].id in ERRORS]
 OWN_VALUES = [
     node.attr for file in FILES for node in file.every(ast.Attribute) if isinstance(node.ctx, ast.Store)
 ]
@@ -153,7 +154,7 @@ class Files(unittest.TestCase):
 
     def test_interface_stands_in_its_file(self):
         for file in FILES:
-            for name in ("pk_read", "pk_choose", "pk_keep"):
+            for name in ("pk_read", "pk_choose", "pk_keep", "pk_core"):
                 self.assertEqual(name in file.top_names(), file.name == "registers.py")
                 self.assertNotIn(name, file.imported())
 
@@ -249,7 +250,7 @@ class Names(unittest.TestCase):
             self.assertEqual(node.decorator_list + node.keywords, [])
             self.assertLessEqual(len(node.bases), 1)
             for base in node.bases:
-                self.assertIn(base.id, ERRORS)
+                self.assertIn(base.id, ERRORS + OWN_CLASSES)
             names = []
             for one in node.body:
                 self.assertIsInstance(one, (ast.FunctionDef, ast.Pass), file.at(one))

@@ -5,17 +5,13 @@ import random
 import unittest
 
 from fitpick.registers import pk_choose
-from plain import Untouchable, fits, hubs, letters, some_register, told, version_of
-
-MOST = 32768
+from plain import (
+    MOST, Untouchable, falling, fits, hubs, letters, pairs, places, rows, some_register, told, version_of,
+)
 
 
 def choose(register, wish, most=MOST):
     return pk_choose(most, list(register.encode("latin-1")), list(wish.encode("latin-1")))
-
-
-def rows(*lines):
-    return "".join(f"{line}\n" for line in lines)
 
 
 class PkChooseCase(unittest.TestCase):
@@ -484,45 +480,26 @@ class Many(PkChooseCase):
         self.chosen(rows(*lines), f"a:* {wish} z:*", *heads, "a 1.0.0", "y 1.0.0", "z 2.0.0")
         self.none(rows(*lines), f"a:>2.0.0 {wish} z:*")
 
-    def places(self, guests, rooms):
-        """Each guest needs a room of its own: room j in version i is the one that guest i has."""
-        lines = [f"g{letters(i)} {j}.0.0 r{letters(j)}:={i}.0.0" for i in range(guests) for j in range(rooms)]
-        lines += [f"r{letters(j)} {i}.0.0" for j in range(rooms) for i in range(guests)]
-        return rows(*lines), " ".join(f"g{letters(i)}:*" for i in range(guests))
-
     def test_more_guests_than_rooms(self):
         for guests in range(2, 9):
-            self.none(*self.places(guests, guests - 1))
+            self.none(*places(guests, guests - 1))
 
     def test_as_many_rooms_as_guests(self):
         for count in range(1, 9):
             heads = [f"g{letters(i)} {count - 1 - i}.0.0" for i in range(count)]
             heads += [f"r{letters(j)} {count - 1 - j}.0.0" for j in range(count)]
-            self.chosen(*self.places(count, count), *heads)
-
-    def pairs(self, count):
-        """Each is paired with another: in version j with the one of number j."""
-        names = [f"p{letters(k)}" for k in range(count)]
-        lines, wish = hubs(names)
-        for i, j in itertools.permutations(range(count), 2):
-            lines.append(f"{names[i]} {j}.0.0 {names[j]}:={i}.0.0")
-        return rows(*lines), wish
+            self.chosen(*places(count, count), *heads)
 
     def test_pairs(self):
         for count in (2, 4, 6, 8, 10):
             heads = [f"hub{letters(start)} 1.0.0" for start in range(0, count, 8)]
-            self.chosen(*self.pairs(count), *heads, *[f"p{letters(k)} {count - 1 - k}.0.0" for k in range(count)])
+            self.chosen(*pairs(count), *heads, *[f"p{letters(k)} {count - 1 - k}.0.0" for k in range(count)])
         for count in (3, 5, 7, 9, 11):
-            self.none(*self.pairs(count))
+            self.none(*pairs(count))
 
     def test_many_versions_each(self):
-        # Each version of a name fits only the next name's versions that aren't above it.
         for names, versions in ((2, 64), (4, 32), (8, 16), (16, 8), (32, 4)):
-            lines = []
-            for k in range(names):
-                for v in range(versions):
-                    need = f" {letters(k + 1)}:<{v + 1}.0.0" if k + 1 < names else ""
-                    lines.append(f"{letters(k)} {v}.0.0{need}")
+            lines = falling(names, versions)
             source = random.Random(names)
             source.shuffle(lines)
             register = rows(*lines)

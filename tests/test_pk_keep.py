@@ -5,9 +5,9 @@ import random
 import unittest
 
 from fitpick.registers import pk_choose, pk_keep
-from plain import Untouchable, common, hubs, is_choice, letters, lines_of, needs_of, some_register, told
-
-MOST = 32768
+from plain import (
+    MOST, Untouchable, common, falling, hubs, is_choice, letters, lines_of, needs_of, rows, some_register, told,
+)
 
 
 def keep(register, wish, old, most=MOST):
@@ -16,10 +16,6 @@ def keep(register, wish, old, most=MOST):
 
 def choose(register, wish, most=MOST):
     return pk_choose(most, list(register.encode()), list(wish.encode()))
-
-
-def rows(*lines):
-    return "".join(f"{line}\n" for line in lines)
 
 
 class PkKeepCase(unittest.TestCase):
@@ -384,15 +380,11 @@ class Many(PkKeepCase):
     def test_many_versions_each(self):
         # Each name's version is at most as great as that of the name before, which half of the earlier ones are not.
         for names, versions in ((2, 64), (4, 32), (8, 16), (16, 8), (32, 4)):
-            lines = []
-            for k in range(names):
-                for v in range(versions):
-                    need = f" {letters(k + 1)}:<{v + 1}.0.0" if k + 1 < names else ""
-                    lines.append(f"{letters(k)} {v}.0.0{need}")
+            lines = falling(names, versions)
             old = [f"{letters(k)} {versions - 1 - k % 2}.0.0" for k in range(names)]
-            self.kept(rows(*lines), "aa:*", rows(*old), *self.falling(names, versions))
+            self.kept(rows(*lines), "aa:*", rows(*old), *self.best_falling(names, versions))
 
-    def falling(self, names, versions):
+    def best_falling(self, names, versions):
         """The best of those with the greatest version up to some name and one less from there on."""
         ways = []
         for turn in range(names + 1):

@@ -4,6 +4,7 @@ import re
 import unittest
 
 from fitpick.registers import pk_read
+from plain import Untouchable
 
 NUMBER = rb"(?:0|[1-9][0-9]{0,2})"
 VERSION = NUMBER + rb"\." + NUMBER + rb"\." + NUMBER
@@ -32,16 +33,6 @@ def read(text):
 
 def many(count):
     return "".join(f"pack 1.{k // 100}.{k % 100}\n" for k in range(count))
-
-
-class Untouchable(list):
-    """A list that tells when it is changed, were it only for a while."""
-
-    def refuse(self, *args, **kwargs):
-        raise RuntimeError("what was handed in is being changed")
-
-    append = extend = insert = pop = remove = clear = sort = reverse = refuse
-    __setitem__ = __delitem__ = __iadd__ = __imul__ = refuse
 
 
 class PkReadCase(unittest.TestCase):
