@@ -6,6 +6,7 @@ A text is a list of bytes. A name is kept as a tuple of its bytes, a version as 
 from fitpick.blaming import find_core
 from fitpick.choices import Choices
 from fitpick.keeping import keep_most
+from fitpick.ordering import order_lines
 
 LINE_END = 10
 SPACE = 32
@@ -231,15 +232,16 @@ def write_lines(lines):
     return text
 
 
-def answer_best(most, b, wish, old):
+def answer_lines(most, b, wish, old, in_order):
     if most > MOST_BYTES:
         return [-2]
     try:
-        text = write_lines(find_best(read_lines(b), read_wishes(wish), read_earlier(old)))
+        best = find_best(read_lines(b), read_wishes(wish), read_earlier(old))
     except (WrongText, WrongLine):
         return [-1]
     except NoChoice:
         return [-6]
+    text = write_lines(order_lines(best) if in_order else best)
     if len(text) > most:
         return [-5]
     return [len(text)] + text
@@ -247,11 +249,11 @@ def answer_best(most, b, wish, old):
 
 def pk_choose(most, b, wish):
     # With an empty earlier choice all choices have equally many lines in common.
-    return answer_best(most, b, wish, [])
+    return answer_lines(most, b, wish, [], False)
 
 
 def pk_keep(most, b, wish, old):
-    return answer_best(most, b, wish, old)
+    return answer_lines(most, b, wish, old, False)
 
 
 def pk_core(b, wish):
@@ -260,3 +262,7 @@ def pk_core(b, wish):
     except (WrongText, WrongLine):
         return [-1]
     return [len(core)] + core
+
+
+def pk_order(most, b, wish):
+    return answer_lines(most, b, wish, [], True)

@@ -154,7 +154,7 @@ class Files(unittest.TestCase):
 
     def test_interface_stands_in_its_file(self):
         for file in FILES:
-            for name in ("pk_read", "pk_choose", "pk_keep", "pk_core"):
+            for name in ("pk_read", "pk_choose", "pk_keep", "pk_core", "pk_order"):
                 self.assertEqual(name in file.top_names(), file.name == "registers.py")
                 self.assertNotIn(name, file.imported())
 
