@@ -36,12 +36,17 @@ class Choices(Fitting):
         for name in self.find_lost(possible):
             self.solver.require([self.packages[name].steps[-1]])
 
+    def find_entries(self, circle):
+        # The numbers of the lines from outside the circle that need one of the circle.
+        numbers = []
+        for name in circle:
+            numbers.extend([number for number in self.packages[name].needers if self.lines[number].name not in circle])
+        return numbers
+
     def let_in(self, name, circle):
         # The name is chosen only if a line from outside the circle needs one of the circle.
-        needers = []
-        for other in circle:
-            needers.extend([number for number in self.packages[other].needers if self.lines[number].name not in circle])
-        self.solver.require([self.packages[name].steps[-1]] + [self.chosen[number] for number in needers])
+        entries = [self.chosen[number] for number in self.find_entries(circle)]
+        self.solver.require([self.packages[name].steps[-1]] + entries)
 
     def find_lost(self, numbers):
         # Those names of these lines that no wish leads to, each with the names that it needs.

@@ -1,10 +1,15 @@
-"""Choices that keep as many lines of an earlier choice as can be.
+"""The best choice, of those that keep as many lines of an earlier one as can be.
 
-At first it's a goal for each of its packages that a line is kept. Where some goals can't be met together, one at least
-is given up, and in their place comes the goal that it's one alone; if that can't be met either, that it's two alone;
-and so on. Each time one line less is kept at best, and no choice with that many is lost: so whatever meets all goals in
-the end is a choice with most lines kept, and each such choice meets them.
+There are two ways to find what can be kept. By its goals it's mostly found at once; but where it takes a count of many
+lines to see that so many can't be kept together, only the bound shows it. So the first is tried for a while.
 """
+
+from fitpick.bounding import keep_by_bound
+from fitpick.choices import Choices
+from fitpick.goals import keep_by_goals
+from fitpick.solving import TooLong
+
+PATIENCE = 4000
 
 
 def ask_goals(choices, earlier):
@@ -18,52 +23,35 @@ def ask_goals(choices, earlier):
         if len(kept) > 0:
             goal = choices.solver.ask(True)
             choices.solver.require([goal ^ 1] + kept)
+            for literal in kept:
+                choices.solver.require([literal ^ 1, goal])
             goals.append(goal)
     return goals
 
 
-def add_counts(solver, left, right):
-    both = [solver.ask(False) for literal in left + right]
-    for side in (left, right):
-        for place, literal in enumerate(side):
-            solver.require([literal ^ 1, both[place]])
-    for place, literal in enumerate(left):
-        for step, other in enumerate(right, start=1):
-            solver.require([literal ^ 1, other ^ 1, both[place + step]])
-    return both
+def try_goals(choices, goals):
+    # Whether it didn't take too long.
+    solver = choices.solver
+    solver.patience = solver.ends + PATIENCE
+    try:
+        keep_by_goals(choices, goals)
+        choices.improve()
+    except TooLong:
+        return False
+    return True
 
 
-def count_up(solver, literals):
-    # Literals that must hold where one at least of those given holds, where two, where three and so on.
-    counts = [[literal] for literal in literals]
-    while len(counts) > 1:
-        counts = counts[2:] + [add_counts(solver, counts[0], counts[1])]
-    return counts[0]
-
-
-class Goals:
-    def __init__(self, literals):
-        # Each goal with those that come in its place, one after the other.
-        self.later = {}
-        for literal in literals:
-            self.later[literal] = []
-
-    def aim(self, literals):
-        if len(literals) > 0:
-            self.later[literals[0]] = literals[1:]
-
-    def give_up(self, solver, core):
-        # One of these fails in any case: so the first goal in their place is that no second one does.
-        for literal in core:
-            self.aim(self.later.pop(literal))
-        counts = count_up(solver, [literal ^ 1 for literal in core])
-        self.aim([literal ^ 1 for literal in counts[1:]])
-
-
-def keep_most(choices, earlier):
-    # Of the choices leaves those with most lines of the earlier one, and finds one of them; there must be some.
-    goals = Goals(ask_goals(choices, earlier))
-    while not choices.seek(list(goals.later)):
-        goals.give_up(choices.solver, choices.solver.core)
-    for literal in goals.later:
-        choices.solver.require([literal])
+def find_best(lines, wishes, earlier):
+    # The numbers of the best choice's lines, of those choices with most lines of the earlier one; None if there's none.
+    choices = Choices(lines, wishes)
+    if not choices.seek([]):
+        return None
+    goals = ask_goals(choices, earlier)
+    if len(goals) == 0:
+        choices.improve()
+    elif not try_goals(choices, goals):
+        # What the first way has added is only in the way of the second.
+        choices = Choices(lines, wishes)
+        keep_by_bound(choices, ask_goals(choices, earlier), earlier)
+        choices.improve()
+    return choices.found

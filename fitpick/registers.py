@@ -4,8 +4,7 @@ A text is a list of bytes. A name is kept as a tuple of its bytes, a version as 
 """
 
 from fitpick.blaming import find_core
-from fitpick.choices import Choices
-from fitpick.keeping import keep_most
+from fitpick.keeping import find_best
 from fitpick.ordering import order_lines
 
 LINE_END = 10
@@ -214,14 +213,13 @@ def read_earlier(old):
     return earlier
 
 
-def find_best(lines, wishes, earlier):
+def choose_lines(b, wish, old):
     # The lines of the best choice of those that keep most of the earlier one, in the register's order.
-    choices = Choices(lines, wishes)
-    if not choices.seek([]):
+    lines = read_lines(b)
+    numbers = find_best(lines, read_wishes(wish), read_earlier(old))
+    if numbers is None:
         raise NoChoice()
-    keep_most(choices, earlier)
-    choices.improve()
-    return [lines[number] for number in choices.found]
+    return [lines[number] for number in numbers]
 
 
 def write_lines(lines):
@@ -236,7 +234,7 @@ def answer_lines(most, b, wish, old, in_order):
     if most > MOST_BYTES:
         return [-2]
     try:
-        best = find_best(read_lines(b), read_wishes(wish), read_earlier(old))
+        best = choose_lines(b, wish, old)
     except (WrongText, WrongLine):
         return [-1]
     except NoChoice:

@@ -29,6 +29,10 @@ def luby(number):
     return (size + 1) // 2
 
 
+class TooLong(Exception):
+    pass
+
+
 class Solver:
     def __init__(self):
         # By literal: what is known of it, which others it forces at once, which longer clauses watch for its failing.
@@ -54,6 +58,11 @@ class Solver:
         self.hopeless = False
         self.model = []
         self.core = []
+        # How many dead ends there have been, and after how many the search is given up, if it is.
+        self.ends = 0
+        self.patience = None
+        # Who knows of more dead ends than the clauses tell, if anybody does.
+        self.judge = None
         self.ask(True)
         self.require([ALWAYS])
 
@@ -284,6 +293,19 @@ class Solver:
             self.place -= 1
         return None
 
+    def look_ahead(self):
+        # All that follows from what holds so far; a clause that fails, if one does.
+        failed = self.propagate()
+        while failed is None and self.judge is not None:
+            failed = self.judge.check()
+            if failed is not None:
+                self.back_to(max([0] + [self.level[literal >> 1] for literal in failed]))
+            elif self.head == len(self.trail):
+                return None
+            else:
+                failed = self.propagate()
+        return failed
+
     def go_on(self, assumed):
         # The assumed come first, one level each, so that a failing one of them can be told from a failing try.
         if len(self.starts) < len(assumed):
@@ -299,12 +321,17 @@ class Solver:
         self.try_literal(literal)
         return None
 
+    def count_end(self):
+        self.ends += 1
+        if self.patience is not None and self.ends > self.patience:
+            raise TooLong()
+
     def search(self, assumed):
         ends = 0
         runs = 0
         answer = None
         while answer is None:
-            failed = self.propagate()
+            failed = self.look_ahead()
             if failed is None and ends < RESTART_UNIT * luby(runs):
                 answer = self.go_on(assumed)
             elif failed is None:
@@ -314,6 +341,7 @@ class Solver:
             elif len(self.starts) > 0:
                 self.learn(failed)
                 ends += 1
+                self.count_end()
             else:
                 self.hopeless = True
                 answer = False

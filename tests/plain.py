@@ -212,6 +212,71 @@ def falling(names, versions):
     return lines
 
 
+def heads(lines):
+    """Names and versions alone: all these lines as an earlier choice."""
+    return rows(*[" ".join(line.split(" ")[:2]) for line in lines])
+
+
+def two_sides(random, few, versions, many, others, sides="ab"):
+    """Names on two sides; each version needs one of the other side. So of the many only one more can be kept than of
+    the few."""
+    first = [f"{sides[0]}{letters(k)}" for k in range(few)]
+    second = [f"{sides[1]}{letters(k)}" for k in range(many)]
+    lines = []
+    for names, count, needed in ((first, versions, second), (second, others, first)):
+        for name in names:
+            lines += [f"{name} {v + 1}.0.0 {other}:*" for v, other in enumerate(random.sample(needed, count))]
+    return rows(*lines), f"{second[0]}:*", heads(lines)
+
+
+def told_by_walks(register, wish, old):
+    """Where each line needs one name in any version, each choice is a walk from the wished name to one that was there."""
+    lines = lines_of(register)
+    wishes = wishes_of(wish)
+    versions = {}
+    for line in lines:
+        versions.setdefault(line[0], []).append(line)
+    best = None
+    waiting = [({}, wishes[0][0])]
+    while waiting:
+        chosen, name = waiting.pop()
+        if name in chosen:
+            rank = (common(chosen, old), worth(chosen, lines, wishes))
+            if best is None or rank > best[0]:
+                best = (rank, chosen)
+        else:
+            waiting += [({**chosen, name: line}, line[2][0][0]) for line in versions[name]]
+    return text_of([line for line in lines if line in best[1].values()])
+
+
+def covering(random, tops, versions, leaves, each):
+    """Of each top one version is chosen, and each brings in some leaves; these were all there earlier."""
+    names = [f"l{letters(k)}" for k in range(leaves)]
+    lines = []
+    for k in range(tops):
+        for v in range(versions):
+            lines.append(f"t{letters(k)} {v}.0.0 " + " ".join(f"{name}:*" for name in random.sample(names, each)))
+    wish = " ".join(f"t{letters(k)}:*" for k in range(tops))
+    old = [f"{name} 1.0.0" for name in names]
+    return rows(*lines, *old), wish, rows(*old)
+
+
+def told_by_tops(register, wish, old):
+    """Where tops bring in leaves: by going through all versions of the tops."""
+    lines = lines_of(register)
+    wishes = wishes_of(wish)
+    leaves = {line[0]: line for line in lines if not line[2]}
+    best = None
+    for tops in itertools.product(*[[line for line in lines if line[0] == name] for name, _ in wishes]):
+        names = {need[0] for top in tops for need in top[2]}
+        if best is None or len(names) >= best[0][0]:
+            chosen = {line[0]: line for line in tops} | {name: leaves[name] for name in names}
+            rank = (len(names), worth(chosen, lines, wishes))
+            if best is None or rank > best[0]:
+                best = (rank, chosen)
+    return text_of([line for line in lines if line in best[1].values()])
+
+
 class Untouchable(list):
     """A list that tells when it is changed, were it only for a while."""
 

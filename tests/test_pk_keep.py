@@ -6,7 +6,8 @@ import unittest
 
 from fitpick.registers import pk_choose, pk_keep
 from plain import (
-    MOST, Untouchable, common, falling, hubs, is_choice, letters, lines_of, needs_of, rows, some_register, told,
+    MOST, Untouchable, common, covering, falling, heads, hubs, is_choice, letters, lines_of, needs_of, rows,
+    some_register, told, told_by_tops, told_by_walks, two_sides,
 )
 
 
@@ -19,6 +20,15 @@ def choose(register, wish, most=MOST):
 
 
 class PkKeepCase(unittest.TestCase):
+    def keeps_so_many(self, register, wish, old, most):
+        """Gives back the choice, by name."""
+        answer = keep(register, wish, old)
+        whole = {line[:2]: line for line in lines_of(register)}
+        chosen = {line[0]: whole[line[:2]] for line in lines_of(bytes(answer[1:]).decode())}
+        self.assertTrue(is_choice(chosen, needs_of(wish.split(" "))))
+        self.assertEqual(common(chosen, old), most)
+        return chosen
+
     def kept(self, register, wish, old, *lines):
         answer = keep(register, wish, old)
         text = rows(*lines)
@@ -302,12 +312,7 @@ class Many(PkKeepCase):
 
     def keeps(self, register, wish, old, most, kept):
         """kept: for each name whether 1.0.0 is to be kept."""
-        answer = keep(register, wish, old)
-        lines = {line[0]: line for line in lines_of(bytes(answer[1:]).decode())}
-        whole = {line[:2]: line for line in lines_of(register)}
-        chosen = {name: whole[line[:2]] for name, line in lines.items()}
-        self.assertTrue(is_choice(chosen, needs_of(wish.split(" "))))
-        self.assertEqual(common(chosen, old), most)
+        chosen = self.keeps_so_many(register, wish, old, most)
         self.assertEqual([chosen[f"n{letters(k)}"][1] == (1, 0, 0) for k in range(len(kept))], kept)
 
     def test_nothing_in_the_way(self):
@@ -401,13 +406,89 @@ class Many(PkKeepCase):
             for v, other in enumerate(((r, c + 1), (r + 1, c), (r, c - 1), (r - 1, c))):
                 if other in names:
                     lines.append(f"{names[(r, c)]} {v}.0.0 {names[other]}:*")
-        register = rows(*lines)
-        old = rows(*[" ".join(line.split(" ")[:2]) for line in lines])
-        answer = keep(register, "naa:*", old)
-        whole = {line[:2]: line for line in lines_of(register)}
-        chosen = {line[0]: whole[line[:2]] for line in lines_of(bytes(answer[1:]).decode())}
-        self.assertTrue(is_choice(chosen, [("naa", "*")]))
-        self.assertEqual(len(chosen), 35)
+        self.keeps_so_many(rows(*lines), "naa:*", heads(lines), 35)
+
+
+class GivenUp(PkKeepCase):
+    """Registers where much of the earlier choice must be given up, and it takes a count to see it."""
+
+    NEEDS = """
+        aa: bab bap bao baf bac bak bae baj
+        ab: bag baj baa bao bak bac bap bam
+        ac: bal bai bah bao bae baa bak baf
+        ad: bao bap baf bag bam bai bac bak
+        ae: baf bad bao baa bac bap bal baj
+        af: bal bai bak bao bac bah bag bam
+        ag: bal bam baj baf bao bah bac bag
+        ah: bao bak bai bad bah bae bal ban
+        baa: af ah ad ag
+        bab: af ae ah ag
+        bac: ah ad af ab
+        bad: af ag ah ab
+        bae: ae ag ad ac
+        baf: ae ag af ah
+        bag: ag ac af ab
+        bah: ah ae ac ag
+        bai: ab ag ac aa
+        baj: ad af aa ag
+        bak: aa ac ae ab
+        bal: ab ag ae ah
+        bam: ae ab ag aa
+        ban: ag af aa ah
+        bao: af ac ab ah
+        bap: aa ah ag af
+    """
+
+    def test_8_names_of_8_versions_and_16_of_4(self):
+        lines = []
+        for row in self.NEEDS.split("\n")[1:-1]:
+            name, others = row.strip().split(": ")
+            lines += [f"{name} {v}.0.0 {other}:*" for v, other in enumerate(others.split(" "), start=1)]
+        self.assertEqual(len(lines), 128)
+        self.kept(
+            rows(*lines), "baa:*", heads(lines), "aa 8.0.0", "ab 8.0.0", "ac 8.0.0", "ad 8.0.0", "ae 7.0.0", "af 7.0.0",
+            "ag 7.0.0", "ah 8.0.0", "baa 4.0.0", "bac 4.0.0", "baf 4.0.0", "bag 2.0.0", "baj 1.0.0", "bak 3.0.0",
+            "bal 4.0.0", "bam 4.0.0", "ban 2.0.0",
+        )
+
+    def test_others_of_its_make(self):
+        source = random.Random(18)
+        for few, versions, many, others in ((7, 9, 14, 4), (6, 8, 12, 5), (10, 6, 17, 4)):
+            self.keeps_so_many(*two_sides(source, few, versions, many, others), 2 * few + 1)
+
+    def test_smaller_ones_against_all_walks(self):
+        source = random.Random(19)
+        for few, versions, many, others in ((2, 3, 5, 2), (3, 4, 6, 3), (4, 3, 7, 2), (4, 4, 9, 3), (3, 6, 8, 3)) * 3:
+            register, wish, old = two_sides(source, few, versions, many, others)
+            self.kept(register, wish, old, *told_by_walks(register, wish, old).splitlines())
+            some = rows(*[line for line in old.splitlines() if source.random() < 0.5])
+            self.kept(register, wish, some, *told_by_walks(register, wish, some).splitlines())
+
+    def test_two_parts_with_one_way_between(self):
+        # Who goes over to the other part doesn't come back.
+        source = random.Random(20)
+        for _ in range(6):
+            register, wish, _ = two_sides(source, 3, 3, 6, 2)
+            lines = register.splitlines() + ["aaa 99.0.0 daa:*", "bab 99.0.0 cab:*"]
+            lines += two_sides(source, 3, 3, 6, 2, "cd")[0].splitlines()
+            self.kept(rows(*lines), wish, heads(lines), *told_by_walks(rows(*lines), wish, heads(lines)).splitlines())
+
+    def test_leaves_brought_in_by_few_tops(self):
+        source = random.Random(21)
+        for tops, versions, leaves, each in ((3, 12, 30, 8), (2, 20, 40, 8), (4, 6, 24, 5), (4, 8, 40, 8), (5, 4, 30, 6)):
+            register, wish, old = covering(source, tops, versions, leaves, each)
+            self.kept(register, wish, old, *told_by_tops(register, wish, old).splitlines())
+
+    def test_a_field_from_the_wrong_place(self):
+        # Five by seven places as on a chessboard: who begins on one of the 17 has to leave out one of the 18.
+        places = list(itertools.product(range(5), range(7)))
+        names = {place: f"n{letters(k)}" for k, place in enumerate(places)}
+        lines = []
+        for r, c in places:
+            for v, other in enumerate(((r, c + 1), (r + 1, c), (r, c - 1), (r - 1, c))):
+                if other in names:
+                    lines.append(f"{names[(r, c)]} {v}.0.0 {names[other]}:*")
+        self.keeps_so_many(rows(*lines), "nab:*", heads(lines), 34)
 
 
 class Calls(PkKeepCase):
