@@ -9,6 +9,8 @@ from fitpick.choices import Choices
 from fitpick.goals import keep_by_goals
 from fitpick.solving import TooLong
 
+# How many dead ends the first way may meet: what it finds at all, it mostly finds before, and there are some thousand
+# of them in a second.
 PATIENCE = 4000
 
 
