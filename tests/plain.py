@@ -249,6 +249,17 @@ def told_by_walks(register, wish, old):
     return text_of([line for line in lines if line in best[1].values()])
 
 
+def field(height, width):
+    """Each version of a place needs another place beside it."""
+    names = {place: f"n{letters(k)}" for k, place in enumerate(itertools.product(range(height), range(width)))}
+    lines = []
+    for (r, c), name in names.items():
+        for v, other in enumerate(((r, c + 1), (r + 1, c), (r, c - 1), (r - 1, c))):
+            if other in names:
+                lines.append(f"{name} {v}.0.0 {names[other]}:*")
+    return lines
+
+
 def covering(random, tops, versions, leaves, each):
     """Of each top one version is chosen, and each brings in some leaves; these were all there earlier."""
     names = [f"l{letters(k)}" for k in range(leaves)]

@@ -6,7 +6,7 @@ import unittest
 
 from fitpick.registers import pk_choose, pk_keep
 from plain import (
-    MOST, Untouchable, common, covering, falling, heads, hubs, is_choice, letters, lines_of, needs_of, rows,
+    MOST, Untouchable, common, covering, falling, field, heads, hubs, is_choice, letters, lines_of, needs_of, rows,
     some_register, told, told_by_tops, told_by_walks, two_sides,
 )
 
@@ -399,13 +399,7 @@ class Many(PkKeepCase):
 
     def test_long_way_through_all(self):
         # Every place leads to a neighbour; all 35 are kept only if the way goes through all of them.
-        places = list(itertools.product(range(5), range(7)))
-        names = {place: f"n{letters(k)}" for k, place in enumerate(places)}
-        lines = []
-        for r, c in places:
-            for v, other in enumerate(((r, c + 1), (r + 1, c), (r, c - 1), (r - 1, c))):
-                if other in names:
-                    lines.append(f"{names[(r, c)]} {v}.0.0 {names[other]}:*")
+        lines = field(5, 7)
         self.keeps_so_many(rows(*lines), "naa:*", heads(lines), 35)
 
 
@@ -481,13 +475,7 @@ class GivenUp(PkKeepCase):
 
     def test_a_field_from_the_wrong_place(self):
         # Five by seven places as on a chessboard: who begins on one of the 17 has to leave out one of the 18.
-        places = list(itertools.product(range(5), range(7)))
-        names = {place: f"n{letters(k)}" for k, place in enumerate(places)}
-        lines = []
-        for r, c in places:
-            for v, other in enumerate(((r, c + 1), (r + 1, c), (r, c - 1), (r - 1, c))):
-                if other in names:
-                    lines.append(f"{names[(r, c)]} {v}.0.0 {names[other]}:*")
+        lines = field(5, 7)
         self.keeps_so_many(rows(*lines), "nab:*", heads(lines), 34)
 
 
